@@ -1,0 +1,1 @@
+"""What is so between each two states of one treaty with reservations."""
