@@ -1,8 +1,14 @@
-"""The treaty as it stands: who has which reservation, and who objects to it."""
+"""The treaty as it stands: who has which reservation, and who objects to it; and how it came to stand so."""
+
+MOST_BACK = 20
 
 
 class Pact:
-    """All reservations and objections; an objection is only kept to a reservation that is there."""
+    """All reservations and objections; an objection is only kept to a reservation that is there.
+
+    Past holds what stood before each change that can be taken back, undone what stood before each rv_back that
+    can be done again: of both the last one is the next to come.
+    """
 
     def __init__(self):
         self.begin(0, 0)
@@ -12,6 +18,8 @@ class Pact:
         self.articles = articles
         self.reservations = {}
         self.objections = {}
+        self.past = []
+        self.undone = []
 
     def lacks_state(self, i):
         return i >= self.states
@@ -28,24 +36,55 @@ class Pact:
         return self.objections.get((j, i, a), 0)
 
     def reserve(self, i, a, kind):
-        self.withdraw(i, a)
+        self.remember()
+        self.lift(i, a)
         self.reservations[(i, a)] = kind
 
     def withdraw(self, i, a):
+        self.remember()
+        self.lift(i, a)
+
+    def protest(self, j, i, a, objection):
+        self.remember()
+        self.objections[(j, i, a)] = objection
+
+    def accept(self, j, i, a):
+        self.remember()
+        self.objections.pop((j, i, a), 0)
+
+    def accept_all(self, i):
+        self.remember()
+        for key in self.objections_to(i):
+            self.objections.pop(key)
+
+    def lift(self, i, a):
         # The objections were to this reservation alone, so they go with it.
         for j in range(self.states):
             self.objections.pop((j, i, a), 0)
         self.reservations.pop((i, a), 0)
 
-    def protest(self, j, i, a, objection):
-        self.objections[(j, i, a)] = objection
+    def standing(self):
+        # Copies, for a change works on the very dicts that stand now.
+        return (dict(self.reservations), dict(self.objections))
 
-    def accept(self, j, i, a):
-        self.objections.pop((j, i, a), 0)
+    def restore(self, stood):
+        self.reservations = stood[0]
+        self.objections = stood[1]
 
-    def accept_all(self, i):
-        for key in self.objections_to(i):
-            self.objections.pop(key)
+    def remember(self):
+        """To be called ahead of each change."""
+        self.past.append(self.standing())
+        if len(self.past) > MOST_BACK:
+            self.past.pop(0)
+        self.undone.clear()
+
+    def back(self):
+        self.undone.append(self.standing())
+        self.restore(self.past.pop())
+
+    def again(self):
+        self.past.append(self.standing())
+        self.restore(self.undone.pop())
 
     def objections_by(self, j):
         return [key for key in self.objections if key[0] == j]

@@ -3,6 +3,8 @@
 Each call is a function that answers a list: the refusal alone, or the number and then all numbers of out.
 """
 
+from reservedtreaty.among import alike, best_gain, different_texts, gain, largest_club
+from reservedtreaty.among import pairs, pairs_as_written, pairs_related, written_in_all
 from reservedtreaty.between import AS_WRITTEN, article_between, articles_between, related
 from reservedtreaty.pact import Pact
 
@@ -10,6 +12,7 @@ NOT_THERE = -2
 NO_SUCH = -6
 ALREADY_SO = -17
 NOT_ALLOWED = -22
+NO_RESERVATIONS = -33
 
 MOST_ARTICLES = 8
 
@@ -129,6 +132,70 @@ def rv_objected(pact, i):
     return [len(pact.objections_to(i)), len(pact.objections_by(i))]
 
 
+def rv_everywhere(pact, a):
+    if pact.lacks_article(a):
+        return [NOT_THERE]
+    written = len(pairs_as_written(pact, a))
+    return [1 if written == len(pairs(pact)) else 0, written]
+
+
+def rv_sum(pact):
+    return [written_in_all(pact), len(pairs(pact)) * pact.articles]
+
+
+def rv_club(pact, a):
+    if pact.lacks_article(a):
+        return [NOT_THERE]
+    return largest_club(pact.states, pairs_as_written(pact, a))
+
+
+def rv_friends(pact):
+    return largest_club(pact.states, pairs_related(pact))
+
+
+def rv_gain(pact, i, a):
+    if pact.lacks_state(i) or pact.lacks_article(a):
+        return [NOT_THERE]
+    if pact.reservation(i, a) == 0:
+        return [NO_SUCH]
+    return [gain(pact, i, a)]
+
+
+def rv_best(pact):
+    if len(pact.reservations) == 0:
+        return [NO_RESERVATIONS]
+    return best_gain(pact)
+
+
+def rv_alike(pact, i, j):
+    refusal = refusal_of_two(pact, i, j)
+    if refusal != 0:
+        return [refusal]
+    return [1 if alike(pact, i, j) else 0]
+
+
+def rv_texts(pact):
+    return [different_texts(pact)]
+
+
+def rv_back(pact):
+    if len(pact.past) == 0:
+        return [NOT_THERE]
+    pact.back()
+    return [len(pact.past)]
+
+
+def rv_again(pact):
+    if len(pact.undone) == 0:
+        return [NOT_THERE]
+    pact.again()
+    return [len(pact.undone)]
+
+
+def rv_state(pact):
+    return [len(pact.reservations), pact.states, pact.articles, len(pact.objections), len(pact.past), len(pact.undone)]
+
+
 # Each call by its number, with how many numbers stand behind that.
 CALLS = {
     0: (rv_start, 2),
@@ -142,10 +209,23 @@ CALLS = {
     8: (rv_related, 2),
     9: (rv_told, 1),
     10: (rv_objected, 1),
+    11: (rv_everywhere, 1),
+    12: (rv_sum, 0),
+    13: (rv_club, 1),
+    14: (rv_friends, 0),
+    15: (rv_gain, 2),
+    16: (rv_best, 0),
+    17: (rv_alike, 2),
+    18: (rv_texts, 0),
+    19: (rv_back, 0),
+    20: (rv_again, 0),
+    21: (rv_state, 0),
 }
 
 
 def answer_of(pact, call, given):
+    if len(given) == 0:
+        return call(pact)
     if len(given) == 1:
         return call(pact, given[0])
     if len(given) == 2:

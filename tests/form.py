@@ -102,10 +102,31 @@ def faults_of_top(tree):
     return faults
 
 
+def faults_of_places(tree, methods):
+    """What may stand in some places only: sets, Python's own functions, values of an object."""
+    faults = []
+    for parent in ast.walk(tree):
+        for node in ast.iter_child_nodes(parent):
+            called = isinstance(parent, ast.Call) and parent.func == node
+            if isinstance(node, ast.Call) and isinstance(node.func, ast.Name) and node.func.id in ("set", "frozenset"):
+                within = isinstance(parent, ast.Call) and isinstance(parent.func, ast.Name)
+                if not (within and parent.func.id in ("len", "sorted")) and not isinstance(parent, ast.Compare):
+                    faults.append("L24 set")
+            if isinstance(node, ast.Name) and node.id in OWN_NAMES[:OWN_NAMES.index("Exception")]:
+                if not called and not isinstance(parent, (ast.keyword, ast.Tuple)):
+                    faults.append("L22 name " + node.id)
+            if isinstance(node, ast.Attribute) and isinstance(node.ctx, ast.Store) and node.attr in methods:
+                faults.append("L18 value " + node.attr)
+            if isinstance(node, ast.Attribute) and node.attr in METHODS + list(methods) and not called:
+                faults.append("L25 handed on " + node.attr)
+    return faults
+
+
 def faults(text, methods=()):
     """What is found in the text of one module; methods are those of the package's own classes."""
     tree = ast.parse(text)
     found = faults_of_rows(text) + faults_of_top(tree) + faults_of_names(tree, methods)
+    found += faults_of_places(tree, methods)
     for node in ast.walk(tree):
         found += faults_of_node(node)
     return found

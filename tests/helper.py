@@ -14,10 +14,22 @@ NUMBERS = {
     "rv_related": 8,
     "rv_told": 9,
     "rv_objected": 10,
+    "rv_everywhere": 11,
+    "rv_sum": 12,
+    "rv_club": 13,
+    "rv_friends": 14,
+    "rv_gain": 15,
+    "rv_best": 16,
+    "rv_alike": 17,
+    "rv_texts": 18,
+    "rv_back": 19,
+    "rv_again": 20,
+    "rv_state": 21,
 }
 
 # How many numbers are answered by a call that is not refused.
-LENGTHS = {"rv_whole": 9, "rv_told": 9, "rv_objected": 2}
+LENGTHS = {"rv_whole": 9, "rv_told": 9, "rv_objected": 2, "rv_everywhere": 2, "rv_sum": 2, "rv_club": 2,
+           "rv_friends": 2, "rv_best": 3, "rv_state": 6}
 
 FAR = 4294967295
 
@@ -67,3 +79,12 @@ def standing(calls, n, m):
                 if answer != [-6]:
                     objections[j, i, a] = answer[0]
     return reservations, objections
+
+
+def everything(calls, n, m):
+    """All that can be told behind the calls, what can be taken back and done again among it."""
+    backs = [("rv_back",), ("rv_state",), ("rv_texts",), ("rv_sum",)] * 21
+    agains = [("rv_again",), ("rv_state",), ("rv_texts",), ("rv_sum",)] * 21
+    behind = len(calls)
+    return (standing(calls, n, m), last(*calls, ("rv_state",)), told(*calls, *backs)[behind:],
+            told(*calls, *agains)[behind:])

@@ -1,19 +1,35 @@
 """A second telling of the document, as rows of rules, to hold the program against."""
 
+import itertools
+
+CHANGES = ("rv_reserve", "rv_withdraw", "rv_object", "rv_accept", "rv_accept_all")
+
 
 class Reference:
+    """Keeps all changes since the start; one is taken back by making all but the last once more from the start."""
+
     def __init__(self):
         self.n = 0
         self.m = 0
         self.kind = []
         self.against = []
+        self.made = []
+        self.unmade = []
+        self.reach = 0
 
     def answer(self, call):
         name = call[0][3:]
         for due, refusal in getattr(self, "refusals_" + name)(*call[1:]):
             if due():
                 return [refusal]
-        return getattr(self, "do_" + name)(*call[1:])
+        if call[0] in CHANGES:
+            self.made.append(call)
+            self.unmade = []
+            self.reach = min(20, self.reach + 1)
+        return self.do(call)
+
+    def do(self, call):
+        return getattr(self, "do_" + call[0][3:])(*call[1:])
 
     def gone(self, states, articles=()):
         due = any(i not in range(self.n) for i in states) or any(a not in range(self.m) for a in articles)
@@ -25,9 +41,15 @@ class Reference:
     def do_start(self, n, m):
         self.n = n
         self.m = m
-        self.kind = [[0] * m for i in range(n)]
-        self.against = [[[0] * n for a in range(m)] for i in range(n)]
+        self.made = []
+        self.unmade = []
+        self.reach = 0
+        self.empty()
         return [0]
+
+    def empty(self):
+        self.kind = [[0] * self.m for i in range(self.n)]
+        self.against = [[[0] * self.n for a in range(self.m)] for i in range(self.n)]
 
     def refusals_reserve(self, i, a, k):
         return [self.gone([i], [a]), (lambda: k not in (1, 2, 3, 4), -22), (lambda: self.kind[i][a] == k, -17)]
@@ -105,3 +127,103 @@ class Reference:
 
     def do_objected(self, i):
         return [self.number_against(i), sum(row[i] != 0 for rows in self.against for row in rows)]
+
+    def two(self):
+        return list(itertools.combinations(range(self.n), 2))
+
+    def refusals_everywhere(self, a):
+        return [self.gone([], [a])]
+
+    def do_everywhere(self, a):
+        written = [self.do_between(i, j, a) == [0] for i, j in self.two()]
+        return [int(all(written)), written.count(True)]
+
+    def refusals_sum(self):
+        return []
+
+    def do_sum(self):
+        return [sum(self.do_everywhere(a)[1] for a in range(self.m)), self.n * (self.n - 1) // 2 * self.m]
+
+    def club(self, so):
+        for size in range(self.n, 0, -1):
+            clubs = [club for club in itertools.combinations(range(self.n), size)
+                     if all(so(i, j) for i, j in itertools.combinations(club, 2))]
+            if clubs:
+                return [size, min(sum(2 ** i for i in club) for club in clubs)]
+
+    def refusals_club(self, a):
+        return [self.gone([], [a])]
+
+    def do_club(self, a):
+        return self.club(lambda i, j: self.do_between(i, j, a) == [0])
+
+    def refusals_friends(self):
+        return []
+
+    def do_friends(self):
+        return self.club(lambda i, j: self.do_related(i, j) == [1])
+
+    def refusals_gain(self, i, a):
+        return self.refusals_withdraw(i, a)
+
+    def do_gain(self, i, a):
+        before = self.do_sum()[0]
+        kind = self.kind[i][a]
+        against = self.against[i][a]
+        self.do_withdraw(i, a)
+        after = self.do_sum()[0]
+        self.kind[i][a] = kind
+        self.against[i][a] = against
+        return [after - before]
+
+    def reserved(self):
+        return [(i, a) for i in range(self.n) for a in range(self.m) if self.kind[i][a]]
+
+    def refusals_best(self):
+        return [(lambda: not self.reserved(), -33)]
+
+    def do_best(self):
+        gains = [(-self.do_gain(i, a)[0], i, a) for i, a in self.reserved()]
+        loss, i, a = min(gains)
+        return [-loss, i, a]
+
+    def refusals_alike(self, i, j):
+        return self.refusals_whole(i, j)
+
+    def do_alike(self, i, j):
+        return [int(all(self.do_between(k, i, a) == self.do_between(k, j, a)
+                        for k in range(self.n) if k not in (i, j) for a in range(self.m)))]
+
+    def refusals_texts(self):
+        return []
+
+    def do_texts(self):
+        return [len({str(self.do_whole(i, j)) for i, j in self.two() if self.do_related(i, j) == [1]})]
+
+    def refusals_back(self):
+        return [(lambda: self.reach == 0, -2)]
+
+    def do_back(self):
+        self.unmade.append(self.made.pop())
+        self.reach -= 1
+        self.empty()
+        for call in self.made:
+            self.do(call)
+        return [self.reach]
+
+    def refusals_again(self):
+        return [(lambda: not self.unmade, -2)]
+
+    def do_again(self):
+        call = self.unmade.pop()
+        self.made.append(call)
+        self.reach += 1
+        self.do(call)
+        return [len(self.unmade)]
+
+    def refusals_state(self):
+        return []
+
+    def do_state(self):
+        objections = sum(self.number_against(i) for i in range(self.n))
+        return [len(self.reserved()), self.n, self.m, objections, self.reach, len(self.unmade)]

@@ -3,7 +3,7 @@
 import unittest
 
 from reservedtreaty.treaty import answers
-from tests.helper import FAR, last, standing, told
+from tests.helper import FAR, everything, last, standing, told
 
 START = ("rv_start", 3, 2)
 
@@ -27,11 +27,14 @@ class Changes(unittest.TestCase):
         calls = BUSY + [call]
         self.assertEqual(last(*calls), [refusal], call)
         self.assertEqual(standing(calls, 3, 2), (BUSY_KINDS, BUSY_OBJECTIONS), call)
+        self.assertEqual(everything(calls, 3, 2), everything(BUSY, 3, 2), call)
 
     def assert_changed(self, call, answer, kinds, objections):
         calls = BUSY + [call]
         self.assertEqual(last(*calls), [answer], call)
         self.assertEqual(standing(calls, 3, 2), (kinds, objections), call)
+        number = sum(kind != 0 for row in kinds for kind in row)
+        self.assertEqual(last(*calls, ("rv_state",)), [number, 3, 2, len(objections), 8, 0], call)
 
 
 def without(*keys):

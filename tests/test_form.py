@@ -24,6 +24,9 @@ BAD = [
     ("def f(id):\n    return id\n", "L15 name id"),
     ("def f(a):\n    _b = a\n", "L12 name _b"),
     ("def f(a):\n    a.sort()\n", "L25 method sort"),
+    ("def f(a):\n    b = set(a)\n    return len(b)\n", "L24 set"),
+    ("def f(a):\n    return a(len)\n", "L22 name len"),
+    ("def f(a):\n    b = a.append\n    b(1)\n", "L25 handed on append"),
     ("# of that type\n", "L17 word"),
     ("# \u00e4\n", "L14 sign"),
     ("# " + "x" * 119 + "\n", "L10 line"),
@@ -47,6 +50,7 @@ class Form(unittest.TestCase):
     def test_what_is_ruled_out_is_seen(self):
         for text, fault in BAD:
             self.assertIn(fault, faults(text), text)
+        self.assertIn("L18 value back", faults("def f(a):\n    a.back = 1\n", ["back"]))
 
 
 if __name__ == "__main__":

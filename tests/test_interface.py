@@ -6,7 +6,6 @@ import unittest
 from reservedtreaty import treaty
 from reservedtreaty.treaty import answers
 from tests.helper import FAR, line, told
-from tests.reference import Reference
 
 # Every call, with refusals among them.
 MANY = line([
@@ -27,6 +26,23 @@ MANY = line([
     ("rv_withdraw", 0, 1),
     ("rv_withdraw", 0, 1),
     ("rv_told", FAR),
+    ("rv_everywhere", 0),
+    ("rv_sum",),
+    ("rv_club", 0),
+    ("rv_friends",),
+    ("rv_gain", 1, 0),
+    ("rv_gain", 1, 1),
+    ("rv_best",),
+    ("rv_alike", 0, 2),
+    ("rv_texts",),
+    ("rv_back",),
+    ("rv_back",),
+    ("rv_again",),
+    ("rv_state",),
+    ("rv_start", 2, 1),
+    ("rv_best",),
+    ("rv_back",),
+    ("rv_again",),
 ])
 MANY_ANSWERS = [
     1, -22, 1, 0, 1, 0, 1, -22, 1, 0, 1, 0, 1, 0,
@@ -36,6 +52,16 @@ MANY_ANSWERS = [
     9, 1, 0, 4, 0, 0, 0, 0, 0, 0,
     2, 2, 0,
     1, 1, 1, 1, 1, 4, 1, -6, 1, -2,
+    2, 0, 1,
+    2, 4, 6,
+    2, 2, 5,
+    2, 3, 7,
+    1, 2, 1, -6,
+    3, 2, 1, 0,
+    1, 1, 1, 2,
+    1, 6, 1, 5, 1, 1,
+    6, 2, 3, 2, 0, 6, 1,
+    1, 0, 1, -33, 1, -2, 1, -2,
 ]
 
 
@@ -47,45 +73,6 @@ class Untouched(list):
 
     append = extend = insert = remove = pop = clear = sort = reverse = refuse
     __setitem__ = __delitem__ = __iadd__ = __imul__ = refuse
-
-
-class Numbers:
-    """The same numbers each time, by a plain rule, to draw calls from."""
-
-    def __init__(self, seed):
-        self.seed = seed
-
-    def below(self, bound):
-        self.seed = (self.seed * 1103515245 + 12345) % 2147483648
-        return (self.seed >> 12) % bound
-
-
-def drawn_call(numbers, n, m):
-    """One call of any kind; now and then a number in it is just beyond what is there."""
-    i = numbers.below(n + 1) if numbers.below(8) == 0 else numbers.below(n)
-    j = numbers.below(n)
-    a = numbers.below(m + 1) if numbers.below(8) == 0 else numbers.below(m)
-    shapes = [
-        ("rv_reserve", i, a, numbers.below(6)),
-        ("rv_reserve", i, a, 1 + numbers.below(4)),
-        ("rv_withdraw", i, a),
-        ("rv_object", j, i, a, numbers.below(4)),
-        ("rv_object", j, i, a, 1),
-        ("rv_object", j, i, a, 1 + numbers.below(2)),
-        ("rv_accept", j, i, a),
-        ("rv_accept_all", i),
-        ("rv_between", i, j, a),
-        ("rv_whole", j, i),
-        ("rv_related", i, j),
-        ("rv_told", i),
-        ("rv_objected", i),
-    ]
-    return shapes[numbers.below(len(shapes))]
-
-
-def drawn_calls(seed, n, m, count):
-    numbers = Numbers(seed)
-    return [("rv_start", n, m)] + [drawn_call(numbers, n, m) for turn in range(count - 1)]
 
 
 class Interface(unittest.TestCase):
@@ -121,7 +108,8 @@ class Interface(unittest.TestCase):
         start = ("rv_start", 6, 8)
         for call in (("rv_reserve", FAR, FAR, FAR), ("rv_withdraw", FAR, FAR), ("rv_object", FAR, FAR, FAR, FAR),
                      ("rv_accept", FAR, FAR, FAR), ("rv_accept_all", FAR), ("rv_between", FAR, FAR, FAR),
-                     ("rv_whole", FAR, FAR), ("rv_related", FAR, FAR), ("rv_told", FAR), ("rv_objected", FAR)):
+                     ("rv_whole", FAR, FAR), ("rv_related", FAR, FAR), ("rv_told", FAR), ("rv_objected", FAR),
+                     ("rv_everywhere", FAR), ("rv_club", FAR), ("rv_gain", FAR, FAR), ("rv_alike", FAR, FAR)):
             self.assertEqual(told(start, call), [[0], [-2]], call)
 
 
@@ -137,13 +125,14 @@ class Long(unittest.TestCase):
     def test_a_thousand_long_answers(self):
         self.assertEqual(answers([0, 2, 8] + [7, 0, 1] * 999), [1, 0] + [9, 8, 0, 0, 0, 0, 0, 0, 0, 0] * 999)
 
-    def test_a_thousand_drawn_calls_against_the_reference(self):
-        for n in range(2, 7):
-            for m in (1, 2, 5, 8):
-                calls = drawn_calls(100 * n + m, n, m, 1000)
-                reference = Reference()
-                for call, row in zip(calls, told(*calls)):
-                    self.assertEqual(row, reference.answer(call), (n, m, call))
+    def test_a_thousand_calls_of_one_number(self):
+        start = [0, 6, 8]
+        for number, answer in ((12, [2, 120, 120]), (14, [2, 6, 63]), (16, [1, -33]), (18, [1, 1]), (19, [1, -2]),
+                               (20, [1, -2]), (21, [6, 0, 6, 8, 0, 0, 0])):
+            self.assertEqual(answers(start + [number] * 999), [1, 0] + answer * 999)
+
+    def test_a_thousand_times_back_and_again(self):
+        self.assertEqual(answers([0, 2, 1, 1, 0, 0, 4] + [19, 20] * 499), [1, 0, 1, 0] + [1, 0, 1, 0] * 499)
 
 
 if __name__ == "__main__":

@@ -1,9 +1,9 @@
-"""Point 3: rv_between, rv_whole, rv_related, rv_told, rv_objected, and what holds of them."""
+"""Point 3, of one state or two: rv_between, rv_whole, rv_related, rv_told, rv_objected, and what holds of them."""
 
 import unittest
 
 from reservedtreaty.treaty import answers
-from tests.helper import FAR, last, standing, told
+from tests.helper import FAR, everything, last, told
 
 # Behind this the treaty is not between 0 and 3; 1 objects to one reservation of 0.
 MIXED = [
@@ -60,7 +60,7 @@ class Questions(unittest.TestCase):
     def assert_refused(self, call, refusal):
         calls = MIXED + [call]
         self.assertEqual(last(*calls), [refusal], call)
-        self.assertEqual(standing(calls, 4, 5), standing(MIXED, 4, 5), call)
+        self.assertEqual(everything(calls, 4, 5), everything(MIXED, 4, 5), call)
 
     def assert_refusals_of_two(self, name, *more):
         for i, j in ((4, 0), (0, 4), (FAR, 0), (0, FAR)):

@@ -3,7 +3,7 @@
 import unittest
 
 from reservedtreaty.treaty import answers
-from tests.helper import FAR, last, standing, told
+from tests.helper import FAR, everything, last, standing, told
 
 
 class Start(unittest.TestCase):
@@ -51,6 +51,7 @@ class StartInTheMidst(unittest.TestCase):
             calls = self.before + [("rv_start", n, m)]
             self.assertEqual(last(*calls), [-22])
             self.assertEqual(standing(calls, 3, 2), was)
+            self.assertEqual(everything(calls, 3, 2), everything(self.before, 3, 2))
             self.assertEqual(last(*calls, ("rv_told", 3)), [-2])
             self.assertEqual(last(*calls, ("rv_between", 0, 1, 2)), [-2])
 
@@ -58,6 +59,7 @@ class StartInTheMidst(unittest.TestCase):
         calls = self.before + [("rv_start", 3, 2)]
         self.assertEqual(last(*calls), [0])
         self.assertEqual(standing(calls, 3, 2), ([[0] * 8] * 3, {}))
+        self.assertEqual(everything(calls, 3, 2), everything([("rv_start", 3, 2)], 3, 2))
         self.assertEqual(last(*calls, ("rv_objected", 0)), [0, 0])
         self.assertEqual(last(*calls, ("rv_related", 0, 2)), [1])
 
